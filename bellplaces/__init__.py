@@ -1,0 +1,1 @@
+"""Bellplaces: people called to their places by a bell, and who lacks."""
