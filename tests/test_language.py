@@ -1,4 +1,4 @@
-"""The package keeps to the plainest rules of the language: files, signs, sizes, imports, names and words."""
+"""The package keeps to the plainest rules of the language: files, signs, sizes, imports, names, words and sets."""
 
 import ast
 import builtins
@@ -22,6 +22,12 @@ BARRED = re.compile(r"\b(type|typing|typing_extensions|enum|Enum|IntEnum|StrEnum
                     r"|ABCMeta|namedtuple|NamedTuple|TypedDict|TYPE_CHECKING|abstractmethod)\b"
                     r"|dataclass|overload|contextmanager")
 NODES = (ast.Global, ast.AsyncFunctionDef, ast.AsyncFor, ast.AsyncWith, ast.Await, ast.Import, ast.Div)
+# Rule 17: names that are used nowhere, and names that are not given to variables, functions and the like.
+UNUSED = set("""
+    register mro elements open input version_info with_traceback add_note attrgetter breakpoint builtins compile
+    copyright credits delattr dir eval exec exit gc getattr globals hasattr help id importlib license locals
+    methodcaller os quit setattr super type vars sys
+""".split())
 PLAIN_NAME = re.compile(r"[A-Za-z][A-Za-z0-9_]*\Z")
 
 
@@ -107,6 +113,48 @@ class TestLanguage(unittest.TestCase):
                     self.assertIn(node.id, BUILTINS, name)
                 if isinstance(node, ast.arg):
                     self.assertFalse(hasattr(builtins, node.arg), (name, node.arg))
+
+    def test_names_that_are_not_used(self):
+        for name, text, tree in package_files():
+            self.assertEqual(UNUSED & set(bound_names(tree)), set(), name)
+
+    def test_no_name_inside_hides_a_class_or_an_import_or_an_own_function(self):
+        for name, text, tree in package_files():
+            outer = {part.name for part in tree.body if isinstance(part, (ast.FunctionDef, ast.ClassDef))}
+            for node in tree.body:
+                if isinstance(node, ast.ImportFrom):
+                    outer |= {alias.name for alias in node.names}
+            for node in ast.walk(tree):
+                if isinstance(node, ast.FunctionDef):
+                    inner = {part.id for part in ast.walk(node)
+                             if isinstance(part, ast.Name) and isinstance(part.ctx, ast.Store)}
+                    inner |= {part.arg for part in ast.walk(node) if isinstance(part, ast.arg)}
+                    self.assertEqual(inner & outer, set(), (name, node.name))
+
+    def test_no_two_files_import_from_each_other(self):
+        above = {}
+        for name, text, tree in package_files():
+            above["bellplaces." + name[:-3]] = {node.module for node in tree.body if isinstance(node, ast.ImportFrom)}
+        while above:
+            free = [module for module in above if not above[module] & set(above)]
+            self.assertTrue(free, sorted(above))
+            for module in free:
+                del above[module]
+
+    def test_comprehensions_and_sets_stand_in_functions_and_sets_are_sorted_or_measured_at_once(self):
+        for name, text, tree in package_files():
+            for part in tree.body:
+                if isinstance(part, ast.Assign):
+                    for node in ast.walk(part):
+                        self.assertNotIsInstance(node, (ast.ListComp, ast.SetComp, ast.DictComp, ast.GeneratorExp))
+            placed = []
+            for node in ast.walk(tree):
+                if isinstance(node, ast.Call) and getattr(node.func, "id", "") in ("sorted", "len"):
+                    placed += node.args
+            for node in ast.walk(tree):
+                made = isinstance(node, ast.Call) and getattr(node.func, "id", "") == "set"
+                if made or isinstance(node, (ast.SetComp, ast.Set)):
+                    self.assertIn(node, placed, (name, node.lineno))
 
     def test_methods_that_are_called(self):
         own = {"__init__"}

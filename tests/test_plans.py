@@ -5,6 +5,7 @@ import unittest
 
 from bellplaces.plans import alike, apart, beneath, called, is_plan, line_up, may
 from tests.things import Unchanged, all_things, deep_things, is_told, is_whole_tuple, swapped, things_but, wrong_kinds
+from tests.trials import trees
 
 # A tree with a way of three, a fork, and a leaf beside: 0 - (1 - (2 - 3, 4), 5).
 UPS = (None, 0, 1, 2, 1, 0)
@@ -26,12 +27,6 @@ PLAN = (7, UPS, (WATCH, NIGHT))
 def plan_of(posts, people=3):
     """A plan of one place and one watch with these posts."""
     return (people, (None,), ((posts,),))
-
-
-def trees(places):
-    """All ups of so many places."""
-    for above in itertools.product(*(range(v) for v in range(1, places))):
-        yield (None,) + above
 
 
 def under(ups, v):
