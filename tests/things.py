@@ -101,3 +101,20 @@ class Unchanged:
         if kind is None:
             self.test.assertEqual(self.things, self.before)
             self.test.assertEqual(repr(self.things), repr(self.before))
+
+
+def otherwise(thing):
+    """The thing with one part of it otherwise, at every depth; some of these are the same as it was."""
+    if type(thing) is not tuple:
+        yield from [None, True, False, -1, 0, 1, 2, 99, 10 ** 40, "", "few", "many", "lacks", "there", "open", b"few",
+                    (), (0,), (thing,), [thing], {}, Strange()]
+        return
+    yield list(thing)
+    yield (thing,)
+    for at, part in enumerate(thing):
+        yield thing[:at] + thing[at + 1:]
+        for other in otherwise(part):
+            yield swapped(thing, at, other)
+        for more in (None, 0, part):
+            yield thing[:at] + (more,) + thing[at:]
+            yield thing + (more,)

@@ -142,3 +142,24 @@ def some_rows(chance, plan, many, bells=4, moments=12, names=2):
             named = tuple(sorted(chance.sample(range(people), min(number, chance.randint(0, names), people))))
             rows.add((moment, "count", b, chance.randrange(len(ups)), number, named))
     return tuple(sorted(rows))
+
+
+def some_house(chance, rooms):
+    """A house of so many rooms with at most 60 doors."""
+    pairs = list(itertools.combinations(range(rooms), 2))
+    many = min(len(pairs), 60, chance.choice((rooms - 1, rooms, 2 * rooms)))
+    return rooms, tuple(sorted(chance.sample(pairs, many)))
+
+
+def some_log(chance, house, many, people=2, moments=8):
+    """At most so many looks, opens, sights and shuts, and a bell and a count, as a rising tuple."""
+    rows = {(1, "bell", 1, 0), (2, "count", 1, 0, 1, ())}
+    for turn in range(many):
+        moment, word = chance.randrange(moments), chance.choice(("look", "look", "open", "open", "seen", "shut"))
+        if word == "look":
+            rows.add((moment, word, chance.randrange(house[0])))
+        elif word == "seen":
+            rows.add((moment, word, chance.randrange(people), chance.randrange(house[0])))
+        elif house[1]:
+            rows.add((moment, word, chance.randrange(len(house[1]))))
+    return tuple(sorted(rows))
