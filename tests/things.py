@@ -103,9 +103,13 @@ class Unchanged:
             self.test.assertEqual(repr(self.things), repr(self.before))
 
 
-def otherwise(thing):
-    """The thing with one part of it otherwise, at every depth; some of these are the same as it was."""
+def otherwise(thing, leaves=()):
+    """The thing with one part of it otherwise, at every depth; some of these are the same as it was.
+
+    Leaves are put, beside others, in the place of what is no tuple.
+    """
     if type(thing) is not tuple:
+        yield from leaves
         yield from [None, True, False, -1, 0, 1, 2, 99, 10 ** 40, "", "few", "many", "lacks", "there", "open", b"few",
                     (), (0,), (thing,), [thing], {}, Strange()]
         return
@@ -113,7 +117,7 @@ def otherwise(thing):
     yield (thing,)
     for at, part in enumerate(thing):
         yield thing[:at] + thing[at + 1:]
-        for other in otherwise(part):
+        for other in otherwise(part, leaves):
             yield swapped(thing, at, other)
         for more in (None, 0, part):
             yield thing[:at] + (more,) + thing[at:]
